@@ -75,12 +75,12 @@ func (l pack) forward() iter.Seq2[int, entry] {
 	return func(yield func(int, entry) bool) {
 		place, at := 0, 0
 		for at < len(l.body) {
-			e := l.entryAt(at)
-			if !yield(place, e) {
+			it, span := readItem(l.body[at:])
+			if !yield(place, entry{item: it, begin: at, span: span}) {
 				return
 			}
 			place++
-			at += e.span + backSize(e.span)
+			at += span + backSize(span)
 		}
 	}
 }
@@ -116,14 +116,23 @@ func (l pack) beginBefore(at int) int {
 	}
 }
 
-// begin is where an entry's bytes begin; of the place behind all it is the end.
+// begin is where an entry's bytes begin, sought from the nearer end; of the place behind all it is the end.
 func (l pack) begin(i int) int {
-	for place, e := range l.forward() {
+	if i == l.count {
+		return len(l.body)
+	}
+	entries := l.forward()
+	if i > l.count/2 {
+		entries = l.backward()
+	}
+	begin := 0
+	for place, e := range entries {
 		if place == i {
-			return e.begin
+			begin = e.begin
+			break
 		}
 	}
-	return len(l.body)
+	return begin
 }
 
 // splice gives the listpack in which values stand in the place of n entries from entry i on.
