@@ -1,0 +1,79 @@
+package texts
+
+import (
+	"errors"
+
+	"cistern/api"
+	"cistern/resp"
+)
+
+func getMany(c *call) (api.Reply, error) {
+	list := make([]api.Reply, len(c.args))
+	for i, key := range c.args {
+		list[i] = c.look(key).reply()
+	}
+	return resp.Array(list...), nil
+}
+
+func setMany(c *call) (api.Reply, error) {
+	if err := c.pairs(); err != nil {
+		return api.Reply{}, err
+	}
+	return resp.Status("OK"), c.writeMany()
+}
+
+func setManyNew(c *call) (api.Reply, error) {
+	if err := c.pairs(); err != nil {
+		return api.Reply{}, err
+	}
+	for i := 0; i < len(c.args); i += 2 {
+		if c.look(c.args[i]).there() {
+			return resp.Int(0), nil
+		}
+	}
+	return resp.Int(1), c.writeMany()
+}
+
+// pairs refuses a key without a string behind it.
+func (c *call) pairs() error {
+	if len(c.args)%2 != 0 {
+		return errors.New("ERR wrong number of arguments for '" + c.name + "' command")
+	}
+	return nil
+}
+
+// writeMany writes all pairs, or none: what would be refused is sought ahead of the first one.
+func (c *call) writeMany() error {
+	if c.anyLong() {
+		return fault(api.ErrLong)
+	}
+	if c.space.Len(-1)+c.fresh() > api.MaxKeys {
+		return fault(api.ErrFull)
+	}
+	for i := 0; i < len(c.args); i += 2 {
+		if err := c.write(c.args[i], c.args[i+1]); err != nil {
+			return err
+		}
+	}
+	return nil
+}
+
+func (c *call) anyLong() bool {
+	for i := 0; i < len(c.args); i += 2 {
+		if len(c.args[i]) > api.MaxKey || len(c.args[i+1]) > api.MaxElement {
+			return true
+		}
+	}
+	return false
+}
+
+// fresh is how many keys of the pairs are not there, each counted once. They are only written, so they are not used by that.
+func (c *call) fresh() int {
+	keys := map[string]struct{}{}
+	for i := 0; i < len(c.args); i += 2 {
+		if _, there := c.space.Peek(c.db, c.args[i]); !there {
+			keys[c.args[i]] = struct{}{}
+		}
+	}
+	return len(keys)
+}

@@ -1,0 +1,64 @@
+package texts
+
+import (
+	"errors"
+	"math"
+
+	"cistern/api"
+	"cistern/resp"
+	"cistern/varint"
+)
+
+var (
+	errDecrement = errors.New("ERR decrement would overflow")
+	errOverflow  = errors.New("ERR increment or decrement would overflow")
+)
+
+func increase(c *call) (api.Reply, error) { return c.add(1) }
+
+func decrease(c *call) (api.Reply, error) { return c.add(-1) }
+
+func increaseBy(c *call) (api.Reply, error) {
+	n, err := number(c.args[1])
+	if err != nil {
+		return api.Reply{}, err
+	}
+	return c.add(n)
+}
+
+func decreaseBy(c *call) (api.Reply, error) {
+	n, err := number(c.args[1])
+	if err != nil {
+		return api.Reply{}, err
+	}
+	if n == math.MinInt {
+		// Turned round it is no number of 64 bits.
+		return api.Reply{}, errDecrement
+	}
+	return c.add(-n)
+}
+
+// add adds to the number that the string is.
+func (c *call) add(n int) (api.Reply, error) {
+	h, err := c.lookText(c.args[0])
+	if err != nil {
+		return api.Reply{}, err
+	}
+	was, err := h.number()
+	if err != nil {
+		return api.Reply{}, err
+	}
+	sum := was + n
+	if n > 0 && sum < was || n < 0 && sum > was {
+		return api.Reply{}, errOverflow
+	}
+	return resp.Int(sum), c.workOn(h, varint.Digits(sum))
+}
+
+// number is the number that the string is; 0, if the key is not there.
+func (h held) number() (int, error) {
+	if !h.there() {
+		return 0, nil
+	}
+	return number(h.text())
+}

@@ -1,0 +1,125 @@
+package texts
+
+import (
+	"errors"
+	"slices"
+
+	"cistern/api"
+	"cistern/glob"
+)
+
+// The option words, in small letters.
+const (
+	seconds        = "ex"
+	milliseconds   = "px"
+	secondsAt      = "exat"
+	millisecondsAt = "pxat"
+	keepExpiry     = "keepttl"
+	dropExpiry     = "persist"
+	onlyNew        = "nx"
+	onlyThere      = "xx"
+	tellOld        = "get"
+)
+
+// never is the time of a key that does not expire.
+const never = -1
+
+// options are the option words that were read, each at its place: those of one place exclude each other, and themselves.
+type options struct {
+	when   string // onlyNew, onlyThere
+	tell   string // tellOld
+	expiry string // all the others
+	span   string // the word behind an expiry option
+}
+
+// words gives a closure that takes one word after the other, as long as there are some.
+func words(list []string) func() (string, bool) {
+	return func() (string, bool) {
+		if len(list) == 0 {
+			return "", false
+		}
+		word := list[0]
+		list = list[1:]
+		return word, true
+	}
+}
+
+// readOptions reads option words in any order: expiry options, and of the others those that are named.
+func readOptions(list []string, others ...string) (options, error) {
+	var o options
+	next := words(list)
+	for word, more := next(); more; word, more = next() {
+		word = glob.Fold(word)
+		if !isExpiry(word) && !slices.Contains(others, word) {
+			return options{}, fault(api.ErrArg)
+		}
+		place := o.place(word)
+		if *place != "" {
+			return options{}, fault(api.ErrArg)
+		}
+		*place = word
+		if !isExpiry(word) {
+			continue
+		}
+		if o.span, more = next(); !more {
+			return options{}, fault(api.ErrArg)
+		}
+	}
+	return o, nil
+}
+
+func isExpiry(word string) bool {
+	switch word {
+	case seconds, milliseconds, secondsAt, millisecondsAt:
+		return true
+	}
+	return false
+}
+
+func (o *options) place(word string) *string {
+	switch word {
+	case onlyNew, onlyThere:
+		return &o.when
+	case tellOld:
+		return &o.tell
+	}
+	return &o.expiry
+}
+
+// due is the time that the options' expiry option means; never, if there is none.
+func (c *call) due(o options) (int, error) {
+	if !isExpiry(o.expiry) {
+		return never, nil
+	}
+	return c.dueBy(o.expiry, o.span)
+}
+
+// dueBy is the time that an expiry option means by the word behind it.
+func (c *call) dueBy(option, word string) (int, error) {
+	n, err := number(word)
+	if err != nil {
+		return 0, err
+	}
+	start, unit := 0, 1
+	if option == seconds || option == milliseconds {
+		start = c.space.Now()
+	}
+	if option == seconds || option == secondsAt {
+		unit = 1000
+	}
+	if n <= 0 || n > (api.MaxNumber-start)/unit {
+		return 0, errors.New("ERR invalid expire time in '" + c.name + "' command")
+	}
+	return start + n*unit, nil
+}
+
+// writeUntil writes a string that expires at a time, or never.
+func (c *call) writeUntil(key, text string, at int) error {
+	if err := c.write(key, text); err != nil {
+		return err
+	}
+	if at != never {
+		c.space.Expire(c.db, key, at)
+	}
+	return nil
+}
