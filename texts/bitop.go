@@ -4,6 +4,7 @@ import (
 	"errors"
 
 	"cistern/api"
+	"cistern/command"
 	"cistern/glob"
 	"cistern/resp"
 )
@@ -14,10 +15,10 @@ const not = "not"
 var errNot = errors.New("ERR BITOP NOT must be called with a single source key.")
 
 func bitOp(c *call) (api.Reply, error) {
-	word, dest, keys := glob.Fold(c.args[0]), c.args[1], c.args[2:]
+	word, dest, keys := glob.Fold(c.Args[0]), c.Args[1], c.Args[2:]
 	pair, ok := pairing(word)
 	if !ok {
-		return api.Reply{}, fault(api.ErrArg)
+		return api.Reply{}, command.Fault(api.ErrArg)
 	}
 	if word == not && len(keys) > 1 {
 		return api.Reply{}, errNot
@@ -30,7 +31,7 @@ func bitOp(c *call) (api.Reply, error) {
 		flip(text)
 	}
 	if len(text) == 0 {
-		c.space.Drop(c.db, dest)
+		c.Space.Drop(c.DB, dest)
 		return resp.Int(0), nil
 	}
 	return resp.Int(len(text)), c.write(dest, string(text))

@@ -5,6 +5,7 @@ import (
 	"math/bits"
 
 	"cistern/api"
+	"cistern/command"
 	"cistern/resp"
 	"cistern/varint"
 )
@@ -53,24 +54,24 @@ func bitReply(is bool) api.Reply {
 }
 
 func getBit(c *call) (api.Reply, error) {
-	at, err := bitOffset(c.args[1])
+	at, err := bitOffset(c.Args[1])
 	if err != nil {
 		return api.Reply{}, err
 	}
-	h, err := c.lookText(c.args[0])
+	h, err := c.lookText(c.Args[0])
 	return bitReply(hasBit(h.text(), at)), err
 }
 
 func setBit(c *call) (api.Reply, error) {
-	at, err := bitOffset(c.args[1])
+	at, err := bitOffset(c.Args[1])
 	if err != nil {
 		return api.Reply{}, err
 	}
-	bit, ok := bitOf(c.args[2])
+	bit, ok := bitOf(c.Args[2])
 	if !ok {
 		return api.Reply{}, errBit
 	}
-	h, err := c.lookText(c.args[0])
+	h, err := c.lookText(c.Args[0])
 	if err != nil {
 		return api.Reply{}, err
 	}
@@ -86,9 +87,9 @@ func setBit(c *call) (api.Reply, error) {
 // bitsOf are the bits of a text at a stretch's places: the first one, and the one behind the last.
 func (s stretch) bitsOf(text string) (int, int) {
 	if s.bits {
-		return places(s.from, s.to, byteBits*len(text))
+		return command.Places(s.from, s.to, byteBits*len(text))
 	}
-	from, end := places(s.from, s.to, len(text))
+	from, end := command.Places(s.from, s.to, len(text))
 	return byteBits * from, byteBits * end
 }
 
@@ -101,11 +102,11 @@ func inByte(place, from, end int) byte {
 }
 
 func bitCount(c *call) (api.Reply, error) {
-	if len(c.args) == 2 {
+	if len(c.Args) == 2 {
 		// Here, but not in BITPOS, a place from which asks for one up to which.
-		return api.Reply{}, fault(api.ErrArg)
+		return api.Reply{}, command.Fault(api.ErrArg)
 	}
-	s, h, err := c.stretchOf(c.args[1:])
+	s, h, err := c.stretchOf(c.Args[1:])
 	if err != nil {
 		return api.Reply{}, err
 	}
@@ -124,11 +125,11 @@ func ones(text string, from, end int) int {
 }
 
 func bitPos(c *call) (api.Reply, error) {
-	bit, ok := bitOf(c.args[1])
+	bit, ok := bitOf(c.Args[1])
 	if !ok {
 		return api.Reply{}, errBitSought
 	}
-	s, h, err := c.stretchOf(c.args[2:])
+	s, h, err := c.stretchOf(c.Args[2:])
 	if err != nil {
 		return api.Reply{}, err
 	}
@@ -138,7 +139,7 @@ func bitPos(c *call) (api.Reply, error) {
 	text := h.text()
 	from, end := s.bitsOf(text)
 	at := first(text, bit, from, end)
-	if hasEnd := len(c.args) > 3; at < 0 && bit == 0 && !hasEnd && from < end {
+	if hasEnd := len(c.Args) > 3; at < 0 && bit == 0 && !hasEnd && from < end {
 		// Without an end the string counts as one with zero bytes behind it.
 		at = byteBits * len(text)
 	}

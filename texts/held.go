@@ -1,12 +1,10 @@
 package texts
 
 import (
-	"errors"
-
 	"cistern/api"
+	"cistern/command"
 	"cistern/resp"
 	"cistern/value"
-	"cistern/varint"
 )
 
 // held is what was found of a key; the value is nil, if the key is not there.
@@ -44,35 +42,23 @@ func (h held) reply() api.Reply {
 	return resp.Bulk(h.text())
 }
 
-// look finds a key of whatever kind. It is used by that, so that no command may look at a word twice.
-func (c *call) look(key string) held {
-	v, _ := c.space.Get(c.db, key)
-	return held{key, v}
-}
+// look finds a key of whatever kind.
+func (c *call) look(key string) held { return held{key, c.Look(key)} }
 
 // lookText finds a key that must not be of another kind.
 func (c *call) lookText(key string) (held, error) {
-	h := c.look(key)
-	return h, wrongKind(h)
-}
-
-func wrongKind(h held) error {
-	if h.there() && !h.isText() {
-		return fault(api.ErrKind)
-	}
-	return nil
+	v, err := c.LookFor(api.KindString, key)
+	return held{key, v}, err
 }
 
 // write gives a key a string anew, by which it has no expiry any more.
 func (c *call) write(key, text string) error {
-	v, e := value.New(api.KindString, c.space.Config().Limits)
+	v := c.New(api.KindString)
+	e := v.SetText(text)
 	if e == api.OK {
-		e = v.SetText(text)
+		e = c.Space.Put(c.DB, key, v)
 	}
-	if e == api.OK {
-		e = c.space.Put(c.db, key, v)
-	}
-	return fault(e)
+	return command.Fault(e)
 }
 
 // workOn gives a key that was looked at another string: in its place, by which its expiry stays, or anew, if it is not there.
@@ -81,24 +67,8 @@ func (c *call) workOn(h held, text string) error {
 		return c.write(h.key, text)
 	}
 	if e := h.value.SetText(text); e != api.OK {
-		return fault(e)
+		return command.Fault(e)
 	}
-	c.space.Changed(c.db, h.key)
+	c.Space.Changed(c.DB, h.key)
 	return nil
-}
-
-// fault is what a client is told of an Errno; nil of OK.
-func fault(e api.Errno) error {
-	if e == api.OK {
-		return nil
-	}
-	return errors.New(resp.Fault(e).Text)
-}
-
-func number(word string) (int, error) {
-	n, ok := varint.Number(word)
-	if !ok {
-		return 0, fault(api.ErrNumber)
-	}
-	return n, nil
 }

@@ -4,12 +4,13 @@ import (
 	"errors"
 
 	"cistern/api"
+	"cistern/command"
 	"cistern/resp"
 )
 
 func getMany(c *call) (api.Reply, error) {
-	list := make([]api.Reply, len(c.args))
-	for i, key := range c.args {
+	list := make([]api.Reply, len(c.Args))
+	for i, key := range c.Args {
 		list[i] = c.look(key).reply()
 	}
 	return resp.Array(list...), nil
@@ -26,8 +27,8 @@ func setManyNew(c *call) (api.Reply, error) {
 	if err := c.pairs(); err != nil {
 		return api.Reply{}, err
 	}
-	for i := 0; i < len(c.args); i += 2 {
-		if c.look(c.args[i]).there() {
+	for i := 0; i < len(c.Args); i += 2 {
+		if c.look(c.Args[i]).there() {
 			return resp.Int(0), nil
 		}
 	}
@@ -36,8 +37,8 @@ func setManyNew(c *call) (api.Reply, error) {
 
 // pairs refuses a key without a string behind it.
 func (c *call) pairs() error {
-	if len(c.args)%2 != 0 {
-		return errors.New("ERR wrong number of arguments for '" + c.name + "' command")
+	if len(c.Args)%2 != 0 {
+		return errors.New("ERR wrong number of arguments for '" + c.Name + "' command")
 	}
 	return nil
 }
@@ -45,13 +46,13 @@ func (c *call) pairs() error {
 // writeMany writes all pairs, or none: what would be refused is sought ahead of the first one.
 func (c *call) writeMany() error {
 	if c.anyLong() {
-		return fault(api.ErrLong)
+		return command.Fault(api.ErrLong)
 	}
-	if c.space.Len(-1)+c.fresh() > api.MaxKeys {
-		return fault(api.ErrFull)
+	if c.Space.Len(-1)+c.fresh() > api.MaxKeys {
+		return command.Fault(api.ErrFull)
 	}
-	for i := 0; i < len(c.args); i += 2 {
-		if err := c.write(c.args[i], c.args[i+1]); err != nil {
+	for i := 0; i < len(c.Args); i += 2 {
+		if err := c.write(c.Args[i], c.Args[i+1]); err != nil {
 			return err
 		}
 	}
@@ -59,8 +60,8 @@ func (c *call) writeMany() error {
 }
 
 func (c *call) anyLong() bool {
-	for i := 0; i < len(c.args); i += 2 {
-		if len(c.args[i]) > api.MaxKey || len(c.args[i+1]) > api.MaxElement {
+	for i := 0; i < len(c.Args); i += 2 {
+		if len(c.Args[i]) > api.MaxKey || len(c.Args[i+1]) > api.MaxElement {
 			return true
 		}
 	}
@@ -70,9 +71,9 @@ func (c *call) anyLong() bool {
 // fresh is how many keys of the pairs are not there, each counted once. They are only written, so they are not used by that.
 func (c *call) fresh() int {
 	keys := map[string]struct{}{}
-	for i := 0; i < len(c.args); i += 2 {
-		if _, there := c.space.Peek(c.db, c.args[i]); !there {
-			keys[c.args[i]] = struct{}{}
+	for i := 0; i < len(c.Args); i += 2 {
+		if _, there := c.Space.Peek(c.DB, c.Args[i]); !there {
+			keys[c.Args[i]] = struct{}{}
 		}
 	}
 	return len(keys)

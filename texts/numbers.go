@@ -5,6 +5,7 @@ import (
 	"math"
 
 	"cistern/api"
+	"cistern/command"
 	"cistern/resp"
 	"cistern/varint"
 )
@@ -19,7 +20,7 @@ func increase(c *call) (api.Reply, error) { return c.add(1) }
 func decrease(c *call) (api.Reply, error) { return c.add(-1) }
 
 func increaseBy(c *call) (api.Reply, error) {
-	n, err := number(c.args[1])
+	n, err := command.Number(c.Args[1])
 	if err != nil {
 		return api.Reply{}, err
 	}
@@ -27,7 +28,7 @@ func increaseBy(c *call) (api.Reply, error) {
 }
 
 func decreaseBy(c *call) (api.Reply, error) {
-	n, err := number(c.args[1])
+	n, err := command.Number(c.Args[1])
 	if err != nil {
 		return api.Reply{}, err
 	}
@@ -40,7 +41,7 @@ func decreaseBy(c *call) (api.Reply, error) {
 
 // add adds to the number that the string is.
 func (c *call) add(n int) (api.Reply, error) {
-	h, err := c.lookText(c.args[0])
+	h, err := c.lookText(c.Args[0])
 	if err != nil {
 		return api.Reply{}, err
 	}
@@ -60,5 +61,5 @@ func (h held) number() (int, error) {
 	if !h.there() {
 		return 0, nil
 	}
-	return number(h.text())
+	return command.Number(h.text())
 }

@@ -5,6 +5,7 @@ import (
 	"slices"
 
 	"cistern/api"
+	"cistern/command"
 	"cistern/glob"
 )
 
@@ -32,37 +33,25 @@ type options struct {
 	span   string // the word behind an expiry option
 }
 
-// words gives a closure that takes one word after the other, as long as there are some.
-func words(list []string) func() (string, bool) {
-	return func() (string, bool) {
-		if len(list) == 0 {
-			return "", false
-		}
-		word := list[0]
-		list = list[1:]
-		return word, true
-	}
-}
-
 // readOptions reads option words in any order: expiry options, and of the others those that are named.
 func readOptions(list []string, others ...string) (options, error) {
 	var o options
-	next := words(list)
+	next := command.Words(list)
 	for word, more := next(); more; word, more = next() {
 		word = glob.Fold(word)
 		if !isExpiry(word) && !slices.Contains(others, word) {
-			return options{}, fault(api.ErrArg)
+			return options{}, command.Fault(api.ErrArg)
 		}
 		place := o.place(word)
 		if *place != "" {
-			return options{}, fault(api.ErrArg)
+			return options{}, command.Fault(api.ErrArg)
 		}
 		*place = word
 		if !isExpiry(word) {
 			continue
 		}
 		if o.span, more = next(); !more {
-			return options{}, fault(api.ErrArg)
+			return options{}, command.Fault(api.ErrArg)
 		}
 	}
 	return o, nil
@@ -96,19 +85,19 @@ func (c *call) due(o options) (int, error) {
 
 // dueBy is the time that an expiry option means by the word behind it.
 func (c *call) dueBy(option, word string) (int, error) {
-	n, err := number(word)
+	n, err := command.Number(word)
 	if err != nil {
 		return 0, err
 	}
 	start, unit := 0, 1
 	if option == seconds || option == milliseconds {
-		start = c.space.Now()
+		start = c.Space.Now()
 	}
 	if option == seconds || option == secondsAt {
 		unit = 1000
 	}
 	if n <= 0 || n > (api.MaxNumber-start)/unit {
-		return 0, errors.New("ERR invalid expire time in '" + c.name + "' command")
+		return 0, errors.New("ERR invalid expire time in '" + c.Name + "' command")
 	}
 	return start + n*unit, nil
 }
@@ -119,7 +108,7 @@ func (c *call) writeUntil(key, text string, at int) error {
 		return err
 	}
 	if at != never {
-		c.space.Expire(c.db, key, at)
+		c.Space.Expire(c.DB, key, at)
 	}
 	return nil
 }

@@ -4,6 +4,7 @@ import (
 	"errors"
 
 	"cistern/api"
+	"cistern/command"
 	"cistern/glob"
 	"cistern/resp"
 )
@@ -22,22 +23,22 @@ type stretch struct {
 // readStretch reads up to three words: from where, to where, bytes or bits.
 func readStretch(list []string) (stretch, error) {
 	s := stretch{from: 0, to: -1}
-	next := words(list)
+	next := command.Words(list)
 	from, hasFrom := next()
 	to, hasTo := next()
 	if unit, more := next(); more {
 		unit = glob.Fold(unit)
 		if unit != "byte" && unit != "bit" {
-			return stretch{}, fault(api.ErrArg)
+			return stretch{}, command.Fault(api.ErrArg)
 		}
 		s.bits = unit == "bit"
 	}
 	var err error
 	if hasFrom {
-		s.from, err = number(from)
+		s.from, err = command.Number(from)
 	}
 	if hasTo && err == nil {
-		s.to, err = number(to)
+		s.to, err = command.Number(to)
 	}
 	return s, err
 }
@@ -48,69 +49,50 @@ func (c *call) stretchOf(list []string) (stretch, held, error) {
 	if err != nil {
 		return stretch{}, held{}, err
 	}
-	h, err := c.lookText(c.args[0])
+	h, err := c.lookText(c.Args[0])
 	return s, h, err
 }
 
-// places are the places from a to b of so many: the first one, and the one behind the last; the same twice, if there are none.
-func places(a, b, of int) (int, int) {
-	if a < 0 && b < 0 && a > b {
-		return 0, 0
-	}
-	a, b = fromEnd(a, of), min(fromEnd(b, of), of-1)
-	if a > b {
-		return 0, 0
-	}
-	return a, b + 1
-}
-
-func fromEnd(place, of int) int {
-	if place < 0 {
-		place += of
-	}
-	return max(place, 0)
-}
-
 func length(c *call) (api.Reply, error) {
-	h, err := c.lookText(c.args[0])
+	h, err := c.lookText(c.Args[0])
 	return resp.Int(h.len()), err
 }
 
 func appendText(c *call) (api.Reply, error) {
-	h, err := c.lookText(c.args[0])
+	h, err := c.lookText(c.Args[0])
 	if err != nil {
 		return api.Reply{}, err
 	}
-	size := h.len() + len(c.args[1])
+	size := h.len() + len(c.Args[1])
 	if h.there() && size > api.MaxElement {
 		return api.Reply{}, errSize
 	}
-	return resp.Int(size), c.workOn(h, h.text()+c.args[1])
+	return resp.Int(size), c.workOn(h, h.text()+c.Args[1])
 }
 
 func getRange(c *call) (api.Reply, error) {
-	s, h, err := c.stretchOf(c.args[1:])
+	s, h, err := c.stretchOf(c.Args[1:])
 	if err != nil {
 		return api.Reply{}, err
 	}
 	text := h.text()
-	from, end := places(s.from, s.to, len(text))
+	from, end := command.Places(s.from, s.to, len(text))
 	return resp.Bulk(text[from:end]), nil
 }
 
 func setRange(c *call) (api.Reply, error) {
-	at, err := number(c.args[1])
+	at, err := command.Number(c.Args[1])
 	if err != nil {
 		return api.Reply{}, err
 	}
 	if at < 0 {
 		return api.Reply{}, errOffset
 	}
-	h, err := c.lookText(c.args[0])
+	h, err := c.lookText(c.Args[0])
 	if err != nil {
 		return api.Reply{}, err
 	}
-	part := c.args[2]
+	part := c.Args[2]
 	if part == "" {
 		return resp.Int(h.len()), nil
 	}

@@ -3,7 +3,6 @@ package texts
 import (
 	"fmt"
 	"math"
-	"slices"
 	"strings"
 	"testing"
 
@@ -33,24 +32,6 @@ func meant(a, b, of int) []int {
 		}
 	}
 	return list
-}
-
-// TestPlaces: the places from A to B, from far below 0 to far above the end.
-func TestPlaces(t *testing.T) {
-	for of := range 7 {
-		for _, a := range ends(of) {
-			for _, b := range ends(of) {
-				from, end := places(a, b, of)
-				var got []int
-				for i := from; i < end; i++ {
-					got = append(got, i)
-				}
-				if want := meant(a, b, of); !slices.Equal(got, want) || from < 0 || end > of || from > end {
-					t.Errorf("places(%d, %d, %d) = %v; want %v", a, b, of, got, want)
-				}
-			}
-		}
-	}
 }
 
 // TestP14_1GetRange: all places of strings of up to five bytes, the empty one among them.

@@ -2,12 +2,13 @@ package texts
 
 import (
 	"cistern/api"
+	"cistern/command"
 	"cistern/resp"
 )
 
 func set(c *call) (api.Reply, error) {
-	key, text := c.args[0], c.args[1]
-	o, err := readOptions(c.args[2:], onlyNew, onlyThere, tellOld, keepExpiry)
+	key, text := c.Args[0], c.Args[1]
+	o, err := readOptions(c.Args[2:], onlyNew, onlyThere, tellOld, keepExpiry)
 	if err != nil {
 		return api.Reply{}, err
 	}
@@ -18,7 +19,7 @@ func set(c *call) (api.Reply, error) {
 	h := c.look(key)
 	reply, unset := resp.Status("OK"), resp.Null()
 	if o.tell == tellOld {
-		if err := wrongKind(h); err != nil {
+		if err := command.MustBe(api.KindString, h.value); err != nil {
 			return api.Reply{}, err
 		}
 		reply = h.reply()
@@ -38,36 +39,36 @@ func (c *call) expiry(h held) int {
 	if !h.there() {
 		return never
 	}
-	at, _ := c.space.Expiry(c.db, h.key)
+	at, _ := c.Space.Expiry(c.DB, h.key)
 	return at
 }
 
 func get(c *call) (api.Reply, error) {
-	h, err := c.lookText(c.args[0])
+	h, err := c.lookText(c.Args[0])
 	return h.reply(), err
 }
 
 func getSet(c *call) (api.Reply, error) {
-	h, err := c.lookText(c.args[0])
+	h, err := c.lookText(c.Args[0])
 	if err != nil {
 		return api.Reply{}, err
 	}
 	was := h.reply()
-	return was, c.write(h.key, c.args[1])
+	return was, c.write(h.key, c.Args[1])
 }
 
 func getDelete(c *call) (api.Reply, error) {
-	h, err := c.lookText(c.args[0])
+	h, err := c.lookText(c.Args[0])
 	if err != nil {
 		return api.Reply{}, err
 	}
 	was := h.reply()
-	c.space.Drop(c.db, h.key)
+	c.Space.Drop(c.DB, h.key)
 	return was, nil
 }
 
 func getExpire(c *call) (api.Reply, error) {
-	o, err := readOptions(c.args[1:], dropExpiry)
+	o, err := readOptions(c.Args[1:], dropExpiry)
 	if err != nil {
 		return api.Reply{}, err
 	}
@@ -75,26 +76,26 @@ func getExpire(c *call) (api.Reply, error) {
 	if err != nil {
 		return api.Reply{}, err
 	}
-	h, err := c.lookText(c.args[0])
+	h, err := c.lookText(c.Args[0])
 	if err != nil {
 		return api.Reply{}, err
 	}
 	was := h.reply()
 	if at != never {
-		c.space.Expire(c.db, h.key, at)
+		c.Space.Expire(c.DB, h.key, at)
 	}
 	if o.expiry == dropExpiry {
-		c.space.Persist(c.db, h.key)
+		c.Space.Persist(c.DB, h.key)
 	}
 	return was, nil
 }
 
 func setNew(c *call) (api.Reply, error) {
-	h := c.look(c.args[0])
+	h := c.look(c.Args[0])
 	if h.there() {
 		return resp.Int(0), nil
 	}
-	return resp.Int(1), c.write(h.key, c.args[1])
+	return resp.Int(1), c.write(h.key, c.Args[1])
 }
 
 func setSeconds(c *call) (api.Reply, error) { return c.setFor(seconds) }
@@ -103,9 +104,9 @@ func setMilliseconds(c *call) (api.Reply, error) { return c.setFor(milliseconds)
 
 // setFor writes a string with an expiry option's time.
 func (c *call) setFor(option string) (api.Reply, error) {
-	at, err := c.dueBy(option, c.args[1])
+	at, err := c.dueBy(option, c.Args[1])
 	if err != nil {
 		return api.Reply{}, err
 	}
-	return resp.Status("OK"), c.writeUntil(c.args[0], c.args[2], at)
+	return resp.Status("OK"), c.writeUntil(c.Args[0], c.Args[2], at)
 }
