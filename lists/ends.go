@@ -9,11 +9,7 @@ import (
 	"cistern/varint"
 )
 
-var (
-	errPositive = errors.New("ERR value is out of range, must be positive")
-	errKeys     = errors.New("ERR numkeys should be greater than 0")
-	errCount    = errors.New("ERR count should be greater than 0")
-)
+var errCount = errors.New("ERR count should be greater than 0")
 
 func (c *call) pushFront() (api.Reply, error) { return c.push(true, false) }
 
@@ -55,9 +51,9 @@ func (c *call) pop(front bool) (api.Reply, error) {
 }
 
 func (c *call) popSome(front bool) (api.Reply, error) {
-	n, ok := varint.Number(c.Args[1])
-	if !ok || n < 0 {
-		return api.Reply{}, errPositive
+	n, err := command.Amount(c.Args[1])
+	if err != nil {
+		return api.Reply{}, err
 	}
 	l, err := c.list(c.Args[0])
 	if err != nil || !l.there() {
@@ -88,9 +84,9 @@ func (c *call) popOfMany() (api.Reply, error) {
 
 // readPop reads how many keys there are, them, an end, and how many entries are to go at most.
 func readPop(words []string) (keys []string, front bool, most int, err error) {
-	n, ok := varint.Number(words[0])
-	if !ok || n <= 0 {
-		return nil, false, 0, errKeys
+	n, err := command.KeyCount(words[0])
+	if err != nil {
+		return nil, false, 0, err
 	}
 	words = words[1:]
 	if n >= len(words) {
