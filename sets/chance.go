@@ -1,0 +1,71 @@
+package sets
+
+import (
+	"cistern/api"
+	"cistern/command"
+	"cistern/resp"
+)
+
+// pop takes one member out by chance, or as many as a word says.
+func (c *call) pop() (api.Reply, error) {
+	if len(c.Args) > 1 {
+		return c.popSome()
+	}
+	s, err := c.set(c.Args[0])
+	if err != nil || !s.there() {
+		return resp.Null(), err
+	}
+	return resp.Bulk(s.take(1)[0]), nil
+}
+
+func (c *call) popSome() (api.Reply, error) {
+	n, err := command.Amount(c.Args[1])
+	if err != nil {
+		return api.Reply{}, err
+	}
+	s, err := c.set(c.Args[0])
+	if err != nil {
+		return api.Reply{}, err
+	}
+	return listed(api.ReplySet, s.take(min(n, s.len()))...), nil
+}
+
+// take takes so many members out by chance: they, in the order in which they go.
+func (s set) take(n int) []string {
+	picked := at(s.members(), s.call.Draw(n, s.len())...)
+	s.drop(picked...)
+	return picked
+}
+
+// at gives the members at places.
+func at(members []string, places ...int) []string {
+	picked := make([]string, len(places))
+	for i, place := range places {
+		picked[i] = members[place]
+	}
+	return picked
+}
+
+// sample tells one member by chance, or as many as a word says.
+func (c *call) sample() (api.Reply, error) {
+	if len(c.Args) > 1 {
+		return c.sampleSome()
+	}
+	s, err := c.set(c.Args[0])
+	if err != nil || !s.there() {
+		return resp.Null(), err
+	}
+	return resp.Bulk(at(s.members(), c.Space.Random(s.len()))[0]), nil
+}
+
+func (c *call) sampleSome() (api.Reply, error) {
+	n, err := command.SampleSize(c.Args[1])
+	if err != nil {
+		return api.Reply{}, err
+	}
+	s, err := c.set(c.Args[0])
+	if err != nil {
+		return api.Reply{}, err
+	}
+	return listed(api.ReplyArray, at(s.members(), c.Sample(n, s.len())...)...), nil
+}

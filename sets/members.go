@@ -1,0 +1,98 @@
+package sets
+
+import (
+	"cistern/api"
+	"cistern/resp"
+)
+
+func (c *call) add() (api.Reply, error) {
+	s, err := c.set(c.Args[0])
+	if err != nil {
+		return api.Reply{}, err
+	}
+	fresh, err := s.add(c.Args[1:]...)
+	return resp.Int(fresh), err
+}
+
+func (c *call) remove() (api.Reply, error) {
+	s, err := c.set(c.Args[0])
+	if err != nil {
+		return api.Reply{}, err
+	}
+	return resp.Int(s.drop(c.Args[1:]...)), nil
+}
+
+func (c *call) length() (api.Reply, error) {
+	s, err := c.set(c.Args[0])
+	return resp.Int(s.len()), err
+}
+
+func (c *call) members() (api.Reply, error) {
+	s, err := c.set(c.Args[0])
+	if err != nil {
+		return api.Reply{}, err
+	}
+	return listed(api.ReplySet, s.members()...), nil
+}
+
+// listed is a reply of a kind with members that are nobody else's memory. They are not copied again, as one of them may be listed very often.
+func listed(kind int, members ...string) api.Reply {
+	list := make([]api.Reply, len(members))
+	for i, member := range members {
+		list[i] = api.Reply{Kind: api.ReplyBulk, Text: member}
+	}
+	return api.Reply{Kind: kind, List: list}
+}
+
+func (c *call) isMember() (api.Reply, error) {
+	s, err := c.set(c.Args[0])
+	if err != nil {
+		return api.Reply{}, err
+	}
+	return yesOrNo(s.has(1)(c.Args[1])), nil
+}
+
+func (c *call) areMembers() (api.Reply, error) {
+	s, err := c.set(c.Args[0])
+	if err != nil {
+		return api.Reply{}, err
+	}
+	words := c.Args[1:]
+	has := s.has(len(words))
+	list := make([]api.Reply, len(words))
+	for i, word := range words {
+		list[i] = yesOrNo(has(word))
+	}
+	return api.Reply{Kind: api.ReplyArray, List: list}, nil
+}
+
+func yesOrNo(yes bool) api.Reply {
+	if yes {
+		return resp.Int(1)
+	}
+	return resp.Int(0)
+}
+
+func (c *call) move() (api.Reply, error) {
+	source, err := c.set(c.Args[0])
+	if err != nil || !source.there() {
+		return resp.Int(0), err
+	}
+	dest, err := c.set(c.Args[1])
+	if err != nil {
+		return api.Reply{}, err
+	}
+	member := c.Args[2]
+	if !source.has(1)(member) {
+		return resp.Int(0), nil
+	}
+	if dest.key == source.key {
+		return resp.Int(1), nil
+	}
+	// It joins first: if that is refused, nothing has gone.
+	if _, err := dest.add(member); err != nil {
+		return api.Reply{}, err
+	}
+	source.drop(member)
+	return resp.Int(1), nil
+}
