@@ -56,6 +56,15 @@ func (c *Call) Draw(n, of int) []int {
 	return places
 }
 
+// At gives what stands at places of a list.
+func At[T any](list []T, places ...int) []T {
+	picked := make([]T, len(places))
+	for i, place := range places {
+		picked[i] = list[place]
+	}
+	return picked
+}
+
 // tally counts the places that are left, so that each is found and taken in few steps however many there are. Its entry i counts those of the places from i - w on up to ahead of i, w being the lowest bit that is set in i.
 type tally []int
 

@@ -53,6 +53,21 @@ func TestDraw(t *testing.T) {
 	}
 }
 
+// TestAt: what stands at places, in their order, one of them again and again; the list stays.
+func TestAt(t *testing.T) {
+	list := []string{"a", "b", "c"}
+	if got := At(list, 2, 0, 0, 1, 0); !slices.Equal(got, []string{"c", "a", "a", "b", "a"}) {
+		t.Errorf("At = %q", got)
+	}
+	if got := At(list); len(got) != 0 {
+		t.Errorf("At no places = %q", got)
+	}
+	At(list, 0, 1, 2)[0] = "spoilt"
+	if !slices.Equal(list, []string{"a", "b", "c"}) {
+		t.Errorf("the list has become %q", list)
+	}
+}
+
 // TestDrawMost: of as many places as a value may have elements all are taken, each once.
 func TestDrawMost(t *testing.T) {
 	c := &Call{Space: newSpace(t)}

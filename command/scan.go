@@ -25,6 +25,11 @@ type Scan struct {
 
 // ReadScan reads a cursor and the options behind it, of which the last one of each counts.
 func ReadScan(cursor string, options ...string) (Scan, error) {
+	return ReadScanWith(func(string) bool { return false }, cursor, options...)
+}
+
+// ReadScanWith is the same of a scan that has options of its own without a word behind them: flag takes such a one over, and tells whether it has.
+func ReadScanWith(flag func(option string) bool, cursor string, options ...string) (Scan, error) {
 	n, ok := varint.Number(cursor)
 	if !ok || n < 0 {
 		return Scan{}, errCursor
@@ -32,6 +37,9 @@ func ReadScan(cursor string, options ...string) (Scan, error) {
 	s := Scan{Cursor: n, Count: usualCount, pattern: everything}
 	next := Words(options)
 	for option, more := next(); more; option, more = next() {
+		if flag(option) {
+			continue
+		}
 		word, has := next()
 		if !has || !s.read(option, word) {
 			return Scan{}, Fault(api.ErrArg)

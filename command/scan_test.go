@@ -40,6 +40,34 @@ func TestReadScan(t *testing.T) {
 	}
 }
 
+// TestReadScanWith: an option without a word behind it, anywhere among the others, and as the word of another one; one that is not taken over is none.
+func TestReadScanWith(t *testing.T) {
+	for _, c := range []struct {
+		line  string
+		count int
+		told  string
+		flags int
+		err   string
+	}{
+		{"0", 10, "a", 0, ""}, {"0 flag", 10, "a", 1, ""}, {"0 FLAG COUNT 3", 3, "a", 1, ""}, {"0 COUNT 3 Flag", 3, "a", 1, ""}, {"0 COUNT 3 flag MATCH b*", 3, "bb", 1, ""}, {"0 MATCH flag", 10, "flag", 0, ""}, {"0 MATCH flag flag", 10, "flag", 1, ""}, {"0 flag COUNT 1 flag MATCH a", 1, "a", 2, ""},
+		{"0 flag flag flag", 0, "", 2, "ERR syntax error"}, {"0 flag flag flag COUNT", 0, "", 2, "ERR syntax error"}, {"0 COUNT flag", 0, "", 0, "ERR syntax error"}, {"0 flags", 0, "", 0, "ERR syntax error"}, {"0 flag 1", 0, "", 1, "ERR syntax error"}, {"0 MATCH", 0, "", 0, "ERR syntax error"}, {"x flag", 0, "", 0, "ERR invalid cursor"},
+	} {
+		flags := 0
+		flag := func(option string) bool {
+			if !Is(option, "flag") || flags == 2 {
+				return false
+			}
+			flags++
+			return true
+		}
+		words := strings.Fields(c.line)
+		s, err := ReadScanWith(flag, words[0], words[1:]...)
+		if s.Count != c.count || flags != c.flags || told(err) != c.err || err == nil && !s.Matches(c.told) {
+			t.Errorf("%s: %+v, %d flags, %v", c.line, s, flags, err)
+		}
+	}
+}
+
 // TestReadScanErrors: cursors and options that can't be.
 func TestReadScanErrors(t *testing.T) {
 	for _, word := range []string{"", "x", "-1", "01", "-0", "+1", "1.0", "9223372036854775808", "-9223372036854775808"} {

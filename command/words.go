@@ -9,6 +9,8 @@ import (
 	"cistern/varint"
 )
 
+var errOverflow = errors.New("ERR increment or decrement would overflow")
+
 // Fault is what a client is told of an Errno; nil of OK.
 func Fault(e api.Errno) error {
 	if e == api.OK {
@@ -27,6 +29,23 @@ func Number(word string) (int, error) {
 		return 0, Fault(api.ErrNumber)
 	}
 	return n, nil
+}
+
+// Sum adds two numbers, if the sum is one of 64 bits.
+func Sum(a, b int) (int, error) {
+	sum := a + b
+	if b > 0 && sum < a || b < 0 && sum > a {
+		return 0, errOverflow
+	}
+	return sum, nil
+}
+
+// Pairs refuses words of a call of which one has none to go with it.
+func (c *Call) Pairs(words []string) error {
+	if len(words)%2 != 0 {
+		return errors.New("ERR wrong number of arguments for '" + c.Name + "' command")
+	}
+	return nil
 }
 
 // Words gives a closure that takes one word after the other, as long as there are some.

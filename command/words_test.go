@@ -62,6 +62,36 @@ func TestNumber(t *testing.T) {
 	}
 }
 
+// TestSum: sums at both ends of 64 bits, and one beyond each.
+func TestSum(t *testing.T) {
+	for _, c := range []struct{ a, b, want int }{
+		{0, 0, 0}, {1, 2, 3}, {-5, 3, -2}, {math.MaxInt, 0, math.MaxInt}, {math.MaxInt - 1, 1, math.MaxInt}, {0, math.MaxInt, math.MaxInt}, {math.MinInt, 0, math.MinInt}, {math.MinInt + 1, -1, math.MinInt}, {0, math.MinInt, math.MinInt}, {math.MinInt, math.MaxInt, -1}, {math.MaxInt, math.MinInt, -1},
+	} {
+		if got, err := Sum(c.a, c.b); got != c.want || err != nil {
+			t.Errorf("Sum(%d, %d) = %d, %v; want %d", c.a, c.b, got, err, c.want)
+		}
+	}
+	for _, c := range [][2]int{{math.MaxInt, 1}, {1, math.MaxInt}, {math.MaxInt, math.MaxInt}, {math.MinInt, -1}, {-1, math.MinInt}, {math.MinInt, math.MinInt}} {
+		if got, err := Sum(c[0], c[1]); got != 0 || told(err) != "ERR increment or decrement would overflow" {
+			t.Errorf("Sum(%d, %d) = %d, %v", c[0], c[1], got, err)
+		}
+	}
+}
+
+// TestPairs: words of which each has one to go with it, and an odd number of them.
+func TestPairs(t *testing.T) {
+	c := &Call{Name: "fill"}
+	for n := range 9 {
+		want := ""
+		if n%2 != 0 {
+			want = "ERR wrong number of arguments for 'fill' command"
+		}
+		if err := c.Pairs(make([]string, n)); told(err) != want {
+			t.Errorf("%d words: %v", n, err)
+		}
+	}
+}
+
 // TestWords: the words of a list, one after the other, and none behind the last; the list stays.
 func TestWords(t *testing.T) {
 	for _, list := range [][]string{nil, {"a"}, {"", "b", ""}} {

@@ -27,22 +27,13 @@ func (c *call) popSome() (api.Reply, error) {
 	if err != nil {
 		return api.Reply{}, err
 	}
-	return listed(api.ReplySet, s.take(min(n, s.len()))...), nil
+	return command.Listed(api.ReplySet, s.take(min(n, s.len()))...), nil
 }
 
 // take takes so many members out by chance: they, in the order in which they go.
 func (s set) take(n int) []string {
-	picked := at(s.members(), s.call.Draw(n, s.len())...)
+	picked := command.At(s.members(), s.call.Draw(n, s.len())...)
 	s.drop(picked...)
-	return picked
-}
-
-// at gives the members at places.
-func at(members []string, places ...int) []string {
-	picked := make([]string, len(places))
-	for i, place := range places {
-		picked[i] = members[place]
-	}
 	return picked
 }
 
@@ -55,7 +46,7 @@ func (c *call) sample() (api.Reply, error) {
 	if err != nil || !s.there() {
 		return resp.Null(), err
 	}
-	return resp.Bulk(at(s.members(), c.Space.Random(s.len()))[0]), nil
+	return resp.Bulk(command.At(s.members(), c.Space.Random(s.len()))[0]), nil
 }
 
 func (c *call) sampleSome() (api.Reply, error) {
@@ -67,5 +58,5 @@ func (c *call) sampleSome() (api.Reply, error) {
 	if err != nil {
 		return api.Reply{}, err
 	}
-	return listed(api.ReplyArray, at(s.members(), c.Sample(n, s.len())...)...), nil
+	return command.Listed(api.ReplyArray, command.At(s.members(), c.Sample(n, s.len())...)...), nil
 }

@@ -2,6 +2,7 @@ package sets
 
 import (
 	"cistern/api"
+	"cistern/command"
 	"cistern/resp"
 )
 
@@ -32,16 +33,7 @@ func (c *call) members() (api.Reply, error) {
 	if err != nil {
 		return api.Reply{}, err
 	}
-	return listed(api.ReplySet, s.members()...), nil
-}
-
-// listed is a reply of a kind with members that are nobody else's memory. They are not copied again, as one of them may be listed very often.
-func listed(kind int, members ...string) api.Reply {
-	list := make([]api.Reply, len(members))
-	for i, member := range members {
-		list[i] = api.Reply{Kind: api.ReplyBulk, Text: member}
-	}
-	return api.Reply{Kind: kind, List: list}
+	return command.Listed(api.ReplySet, s.members()...), nil
 }
 
 func (c *call) isMember() (api.Reply, error) {
@@ -49,7 +41,7 @@ func (c *call) isMember() (api.Reply, error) {
 	if err != nil {
 		return api.Reply{}, err
 	}
-	return yesOrNo(s.has(1)(c.Args[1])), nil
+	return command.YesOrNo(s.has(1)(c.Args[1])), nil
 }
 
 func (c *call) areMembers() (api.Reply, error) {
@@ -61,16 +53,9 @@ func (c *call) areMembers() (api.Reply, error) {
 	has := s.has(len(words))
 	list := make([]api.Reply, len(words))
 	for i, word := range words {
-		list[i] = yesOrNo(has(word))
+		list[i] = command.YesOrNo(has(word))
 	}
 	return api.Reply{Kind: api.ReplyArray, List: list}, nil
-}
-
-func yesOrNo(yes bool) api.Reply {
-	if yes {
-		return resp.Int(1)
-	}
-	return resp.Int(0)
 }
 
 func (c *call) move() (api.Reply, error) {

@@ -26,7 +26,7 @@ func telling(of func(sets ...set) []string) func(c *call) (api.Reply, error) {
 		if err != nil {
 			return api.Reply{}, err
 		}
-		return listed(api.ReplySet, members...), nil
+		return command.Listed(api.ReplySet, members...), nil
 	}
 }
 

@@ -1,8 +1,6 @@
 package texts
 
 import (
-	"errors"
-
 	"cistern/api"
 	"cistern/command"
 	"cistern/resp"
@@ -17,14 +15,14 @@ func getMany(c *call) (api.Reply, error) {
 }
 
 func setMany(c *call) (api.Reply, error) {
-	if err := c.pairs(); err != nil {
+	if err := c.Pairs(c.Args); err != nil {
 		return api.Reply{}, err
 	}
 	return resp.Status("OK"), c.writeMany()
 }
 
 func setManyNew(c *call) (api.Reply, error) {
-	if err := c.pairs(); err != nil {
+	if err := c.Pairs(c.Args); err != nil {
 		return api.Reply{}, err
 	}
 	for i := 0; i < len(c.Args); i += 2 {
@@ -33,14 +31,6 @@ func setManyNew(c *call) (api.Reply, error) {
 		}
 	}
 	return resp.Int(1), c.writeMany()
-}
-
-// pairs refuses a key without a string behind it.
-func (c *call) pairs() error {
-	if len(c.Args)%2 != 0 {
-		return errors.New("ERR wrong number of arguments for '" + c.Name + "' command")
-	}
-	return nil
 }
 
 // writeMany writes all pairs, or none: what would be refused is sought ahead of the first one.

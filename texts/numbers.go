@@ -10,10 +10,7 @@ import (
 	"cistern/varint"
 )
 
-var (
-	errDecrement = errors.New("ERR decrement would overflow")
-	errOverflow  = errors.New("ERR increment or decrement would overflow")
-)
+var errDecrement = errors.New("ERR decrement would overflow")
 
 func increase(c *call) (api.Reply, error) { return c.add(1) }
 
@@ -49,9 +46,9 @@ func (c *call) add(n int) (api.Reply, error) {
 	if err != nil {
 		return api.Reply{}, err
 	}
-	sum := was + n
-	if n > 0 && sum < was || n < 0 && sum > was {
-		return api.Reply{}, errOverflow
+	sum, err := command.Sum(was, n)
+	if err != nil {
+		return api.Reply{}, err
 	}
 	return resp.Int(sum), c.workOn(h, varint.Digits(sum))
 }
