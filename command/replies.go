@@ -13,6 +13,9 @@ func YesOrNo(yes bool) api.Reply {
 	return resp.Int(0)
 }
 
+// NullArray tells the null in the place of an array.
+func NullArray() api.Reply { return api.Reply{Kind: api.ReplyNulls} }
+
 // Listed is a reply of a kind with texts that are nobody else's memory. They are not copied again, as one of them may be listed very often.
 func Listed(kind int, texts ...string) api.Reply {
 	list := make([]api.Reply, len(texts))

@@ -33,3 +33,10 @@ func TestListed(t *testing.T) {
 		}
 	}
 }
+
+// TestNullArray: the null of arrays, which is not that of texts.
+func TestNullArray(t *testing.T) {
+	if r := NullArray(); r.Kind != api.ReplyNulls || r.N != 0 || r.Text != "" || len(r.List) != 0 {
+		t.Errorf("NullArray() = %+v", r)
+	}
+}

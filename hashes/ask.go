@@ -56,7 +56,7 @@ func (c *call) valueLength() (api.Reply, error) {
 
 func (c *call) length() (api.Reply, error) {
 	h, err := c.hash()
-	return resp.Int(h.len()), err
+	return resp.Int(h.Len()), err
 }
 
 // telling gives the command that tells all fields, by rising name: a reply of a kind with what a function takes of them.

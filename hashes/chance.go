@@ -12,10 +12,10 @@ func (c *call) sample() (api.Reply, error) {
 		return c.sampleSome()
 	}
 	h, err := c.hash()
-	if err != nil || !h.there() {
+	if err != nil || !h.There() {
 		return resp.Null(), err
 	}
-	return resp.Bulk(h.fields()[c.Space.Random(h.len())].Name), nil
+	return resp.Bulk(h.fields()[c.Space.Random(h.Len())].Name), nil
 }
 
 func (c *call) sampleSome() (api.Reply, error) {
@@ -31,7 +31,7 @@ func (c *call) sampleSome() (api.Reply, error) {
 	if err != nil {
 		return api.Reply{}, err
 	}
-	picked := command.At(h.fields(), c.Sample(n, h.len())...)
+	picked := command.At(h.fields(), c.Sample(n, h.Len())...)
 	return command.Listed(api.ReplyArray, take(picked...)...), nil
 }
 

@@ -13,49 +13,35 @@ import (
 const few = 16
 
 // hash is what was found of a key that is no other thing than a hash. One that is not there counts as the empty one.
-type hash struct {
-	call  *call
-	key   string
-	value *value.Value // nil, if the key is not there
-}
+type hash struct{ command.Held }
 
 // hash looks at the key.
 func (c *call) hash() (hash, error) {
-	key := c.Args[0]
-	v, err := c.LookFor(api.KindHash, key)
-	return hash{c, key, v}, err
-}
-
-func (h hash) there() bool { return h.value != nil }
-
-func (h hash) len() int {
-	if !h.there() {
-		return 0
-	}
-	return h.value.Len()
+	held, err := c.Hold(api.KindHash, c.Args[0])
+	return hash{held}, err
 }
 
 // field gives the value of a name, and whether the name is there.
 func (h hash) field(name string) (string, bool) {
-	if !h.there() {
+	if !h.There() {
 		return "", false
 	}
-	text, found, _ := h.value.Field(name)
+	text, found, _ := h.Value.Field(name)
 	return text, found
 }
 
 // fields gives all fields, by rising name; they are the caller's own memory.
 func (h hash) fields() []api.Field {
-	if !h.there() {
+	if !h.There() {
 		return nil
 	}
-	fields, _ := h.value.Fields()
+	fields, _ := h.Value.Fields()
 	return fields
 }
 
 // finder gives a function that tells what field does; it is going to be asked so many times.
 func (h hash) finder(times int) func(name string) (string, bool) {
-	if !h.there() || times <= few || h.value.Encoding() == "hashtable" {
+	if !h.There() || times <= few || h.Value.Encoding() == "hashtable" {
 		return h.field
 	}
 	fields := h.fields()
@@ -72,46 +58,33 @@ func (h hash) finder(times int) func(name string) (string, bool) {
 
 // put puts fields, of which there is one at least; a hash that is not there is made of them. How many names are new.
 func (h hash) put(fields ...api.Field) (int, error) {
-	if !h.there() {
+	if !h.There() {
 		return h.makeOf(fields...)
 	}
-	fresh, e := h.value.Put(fields...)
+	fresh, e := h.Value.Put(fields...)
 	if e == api.OK {
-		h.changed()
+		h.Changed()
 	}
 	return fresh, command.Fault(e)
 }
 
 // makeOf lets the key be a new hash of fields; how many it has.
-func (h hash) makeOf(fields ...api.Field) (int, error) {
-	v := h.call.New(api.KindHash)
-	fresh, e := v.Put(fields...)
-	if e == api.OK {
-		e = h.call.Space.Put(h.call.DB, h.key, v)
-	}
-	return fresh, command.Fault(e)
+func (h hash) makeOf(fields ...api.Field) (fresh int, err error) {
+	err = h.Call.Make(api.KindHash, h.Key, func(v *value.Value) (e api.Errno) {
+		fresh, e = v.Put(fields...)
+		return e
+	})
+	return fresh, err
 }
 
 // erase takes names out with their values; how many were there.
 func (h hash) erase(names ...string) int {
-	if !h.there() {
+	if !h.There() {
 		return 0
 	}
-	gone, _ := h.value.Erase(names...)
+	gone, _ := h.Value.Erase(names...)
 	if gone > 0 {
-		h.changed()
+		h.Changed()
 	}
 	return gone
 }
-
-// scan gives some names, and the cursor for the next ones.
-func (h hash) scan(cursor, n int) ([]string, int) {
-	if !h.there() {
-		return nil, 0
-	}
-	names, next, _ := h.value.Scan(cursor, n)
-	return names, next
-}
-
-// changed tells the space that the hash was worked on.
-func (h hash) changed() { h.call.Space.Changed(h.call.DB, h.key) }

@@ -24,7 +24,7 @@ func (c *call) scan() (api.Reply, error) {
 	if err != nil {
 		return api.Reply{}, err
 	}
-	names, next := h.scan(asked.Cursor, asked.Count)
+	names, next := h.Scan(asked.Cursor, asked.Count)
 	names = slices.DeleteFunc(names, func(name string) bool { return !asked.Matches(name) })
 	if bare {
 		return command.Scanned(next, names...), nil

@@ -25,12 +25,12 @@ func (c *call) push(front, mustBeThere bool) (api.Reply, error) {
 	if err != nil {
 		return api.Reply{}, err
 	}
-	if mustBeThere && !l.there() {
+	if mustBeThere && !l.There() {
 		return resp.Int(0), nil
 	}
 	entries := c.Args[1:]
 	// The length is told of a list that is made too, so it is reckoned ahead of that.
-	length := l.len() + len(entries)
+	length := l.Len() + len(entries)
 	return resp.Int(length), l.push(front, entries...)
 }
 
@@ -44,7 +44,7 @@ func (c *call) pop(front bool) (api.Reply, error) {
 		return c.popSome(front)
 	}
 	l, err := c.list(c.Args[0])
-	if err != nil || !l.there() {
+	if err != nil || !l.There() {
 		return resp.Null(), err
 	}
 	return resp.Bulk(l.pop(front, 1)[0]), nil
@@ -56,13 +56,11 @@ func (c *call) popSome(front bool) (api.Reply, error) {
 		return api.Reply{}, err
 	}
 	l, err := c.list(c.Args[0])
-	if err != nil || !l.there() {
-		return nullArray(), err
+	if err != nil || !l.There() {
+		return command.NullArray(), err
 	}
 	return resp.Texts(l.pop(front, n)...), nil
 }
-
-func nullArray() api.Reply { return api.Reply{Kind: api.ReplyNulls} }
 
 // popOfMany takes entries out of the first of several lists that is there.
 func (c *call) popOfMany() (api.Reply, error) {
@@ -75,11 +73,11 @@ func (c *call) popOfMany() (api.Reply, error) {
 		if err != nil {
 			return api.Reply{}, err
 		}
-		if l.there() {
+		if l.There() {
 			return resp.Array(resp.Bulk(key), resp.Texts(l.pop(front, most)...)), nil
 		}
 	}
-	return nullArray(), nil
+	return command.NullArray(), nil
 }
 
 // readPop reads how many keys there are, them, an end, and how many entries are to go at most.

@@ -12,7 +12,7 @@ var errIndex = errors.New("ERR index out of range")
 
 func (c *call) length() (api.Reply, error) {
 	l, err := c.list(c.Args[0])
-	return resp.Int(l.len()), err
+	return resp.Int(l.Len()), err
 }
 
 func (c *call) index() (api.Reply, error) {
@@ -32,14 +32,14 @@ func (c *call) set() (api.Reply, error) {
 	if err != nil {
 		return api.Reply{}, err
 	}
-	if !l.there() {
+	if !l.There() {
 		return api.Reply{}, command.Fault(api.ErrNone)
 	}
 	place := l.place(i)
 	if _, ok := l.at(place); !ok {
 		return api.Reply{}, errIndex
 	}
-	return resp.Status("OK"), l.changedBy(l.value.SetAt(place, c.Args[2]))
+	return resp.Status("OK"), l.changedBy(l.Value.SetAt(place, c.Args[2]))
 }
 
 // numbered reads the number behind the key and, if it is one, looks at the key.
@@ -58,7 +58,7 @@ func (c *call) insert() (api.Reply, error) {
 		return api.Reply{}, command.Fault(api.ErrArg)
 	}
 	l, err := c.list(c.Args[0])
-	if err != nil || !l.there() {
+	if err != nil || !l.There() {
 		return resp.Int(0), err
 	}
 	places := l.find(search{entry: c.Args[2], most: 1})
@@ -69,8 +69,8 @@ func (c *call) insert() (api.Reply, error) {
 	if !ahead {
 		place++
 	}
-	length := l.len() + 1
-	return resp.Int(length), l.changedBy(l.value.Insert(place, c.Args[3]))
+	length := l.Len() + 1
+	return resp.Int(length), l.changedBy(l.Value.Insert(place, c.Args[3]))
 }
 
 func (c *call) slice() (api.Reply, error) {
@@ -86,10 +86,10 @@ func (c *call) trim() (api.Reply, error) {
 	if err != nil {
 		return api.Reply{}, err
 	}
-	if l.there() {
-		l.value.Remove(end, l.len()-end)
-		l.value.Remove(0, from)
-		l.changed()
+	if l.There() {
+		l.Value.Remove(end, l.Len()-end)
+		l.Value.Remove(0, from)
+		l.Changed()
 	}
 	return resp.Status("OK"), nil
 }
@@ -108,6 +108,6 @@ func (c *call) stretch() (l list, from, end int, err error) {
 	if err != nil {
 		return list{}, 0, 0, err
 	}
-	from, end = command.Places(a, b, l.len())
+	from, end = command.Places(a, b, l.Len())
 	return l, from, end, nil
 }

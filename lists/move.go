@@ -22,14 +22,14 @@ func (c *call) moveBackToFront() (api.Reply, error) { return c.moveEntry(false, 
 // moveEntry lets the entry at an end of the source stand at an end of the dest.
 func (c *call) moveEntry(from, to bool) (api.Reply, error) {
 	source, err := c.list(c.Args[0])
-	if err != nil || !source.there() {
+	if err != nil || !source.There() {
 		return resp.Null(), err
 	}
 	dest, err := c.list(c.Args[1])
 	if err != nil {
 		return api.Reply{}, err
 	}
-	if dest.key == source.key {
+	if dest.Key == source.Key {
 		return resp.Bulk(source.turn(from, to)), nil
 	}
 	entry, _ := source.at(source.end(from))
@@ -46,13 +46,13 @@ func (l list) end(front bool) int {
 	if front {
 		return 0
 	}
-	return l.len() - 1
+	return l.Len() - 1
 }
 
 // turn moves an entry within a list that is there. It goes first, as a full list has no room for it; the space is told only then, as an empty list would go.
 func (l list) turn(from, to bool) string {
-	entries, _ := l.value.Pop(from, 1)
-	l.value.Push(to, entries...)
-	l.changed()
+	entries, _ := l.Value.Pop(from, 1)
+	l.Value.Push(to, entries...)
+	l.Changed()
 	return entries[0]
 }

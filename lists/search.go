@@ -56,10 +56,10 @@ func (l list) find(s search) []int {
 // walk yields the places and the entries, from the first or the last one on. They are laid down piece by piece, so that a search in a long list may end soon.
 func (l list) walk(back bool) iter.Seq2[int, string] {
 	return func(yield func(place int, entry string) bool) {
-		for done := 0; done < l.len(); done += atOnce {
-			from, end := done, min(done+atOnce, l.len())
+		for done := 0; done < l.Len(); done += atOnce {
+			from, end := done, min(done+atOnce, l.Len())
 			if back {
-				from, end = l.len()-end, l.len()-from
+				from, end = l.Len()-end, l.Len()-from
 			}
 			entries := l.part(from, end)
 			for i := range entries {
@@ -83,7 +83,7 @@ func (c *call) remove() (api.Reply, error) {
 	places := l.find(search{entry: c.Args[2], back: n < 0, most: size(n)})
 	if len(places) > 0 {
 		l.removeAt(places...)
-		l.changed()
+		l.Changed()
 	}
 	return resp.Int(len(places)), nil
 }
@@ -104,7 +104,7 @@ func (l list) removeAt(places ...int) {
 		for first > 0 && places[first-1] == places[first]-1 {
 			first--
 		}
-		l.value.Remove(places[first], end-first)
+		l.Value.Remove(places[first], end-first)
 		end = first
 	}
 }

@@ -12,7 +12,7 @@ func (c *call) pop() (api.Reply, error) {
 		return c.popSome()
 	}
 	s, err := c.set(c.Args[0])
-	if err != nil || !s.there() {
+	if err != nil || !s.There() {
 		return resp.Null(), err
 	}
 	return resp.Bulk(s.take(1)[0]), nil
@@ -27,12 +27,12 @@ func (c *call) popSome() (api.Reply, error) {
 	if err != nil {
 		return api.Reply{}, err
 	}
-	return command.Listed(api.ReplySet, s.take(min(n, s.len()))...), nil
+	return command.Listed(api.ReplySet, s.take(min(n, s.Len()))...), nil
 }
 
 // take takes so many members out by chance: they, in the order in which they go.
 func (s set) take(n int) []string {
-	picked := command.At(s.members(), s.call.Draw(n, s.len())...)
+	picked := command.At(s.members(), s.Call.Draw(n, s.Len())...)
 	s.drop(picked...)
 	return picked
 }
@@ -43,10 +43,10 @@ func (c *call) sample() (api.Reply, error) {
 		return c.sampleSome()
 	}
 	s, err := c.set(c.Args[0])
-	if err != nil || !s.there() {
+	if err != nil || !s.There() {
 		return resp.Null(), err
 	}
-	return resp.Bulk(command.At(s.members(), c.Space.Random(s.len()))[0]), nil
+	return resp.Bulk(command.At(s.members(), c.Space.Random(s.Len()))[0]), nil
 }
 
 func (c *call) sampleSome() (api.Reply, error) {
@@ -58,5 +58,5 @@ func (c *call) sampleSome() (api.Reply, error) {
 	if err != nil {
 		return api.Reply{}, err
 	}
-	return command.Listed(api.ReplyArray, command.At(s.members(), c.Sample(n, s.len())...)...), nil
+	return command.Listed(api.ReplyArray, command.At(s.members(), c.Sample(n, s.Len())...)...), nil
 }

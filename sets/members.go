@@ -25,7 +25,7 @@ func (c *call) remove() (api.Reply, error) {
 
 func (c *call) length() (api.Reply, error) {
 	s, err := c.set(c.Args[0])
-	return resp.Int(s.len()), err
+	return resp.Int(s.Len()), err
 }
 
 func (c *call) members() (api.Reply, error) {
@@ -60,7 +60,7 @@ func (c *call) areMembers() (api.Reply, error) {
 
 func (c *call) move() (api.Reply, error) {
 	source, err := c.set(c.Args[0])
-	if err != nil || !source.there() {
+	if err != nil || !source.There() {
 		return resp.Int(0), err
 	}
 	dest, err := c.set(c.Args[1])
@@ -71,7 +71,7 @@ func (c *call) move() (api.Reply, error) {
 	if !source.has(1)(member) {
 		return resp.Int(0), nil
 	}
-	if dest.key == source.key {
+	if dest.Key == source.Key {
 		return resp.Int(1), nil
 	}
 	// It joins first: if that is refused, nothing has gone.

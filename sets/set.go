@@ -12,16 +12,12 @@ import (
 const few = 16
 
 // set is what was found of a key that is no other thing than a set. One that is not there counts as the empty one.
-type set struct {
-	call  *call
-	key   string
-	value *value.Value // nil, if the key is not there
-}
+type set struct{ command.Held }
 
 // set looks at a key.
 func (c *call) set(key string) (set, error) {
-	v, err := c.LookFor(api.KindSet, key)
-	return set{c, key, v}, err
+	held, err := c.Hold(api.KindSet, key)
+	return set{held}, err
 }
 
 // sets looks at keys, in their order, up to the first that is of the wrong kind.
@@ -36,32 +32,23 @@ func (c *call) sets(keys ...string) ([]set, error) {
 	return list, nil
 }
 
-func (s set) there() bool { return s.value != nil }
-
-func (s set) len() int {
-	if !s.there() {
-		return 0
-	}
-	return s.value.Len()
-}
-
 // members gives all members, rising; they are the caller's own memory.
 func (s set) members() []string {
-	if !s.there() {
+	if !s.There() {
 		return nil
 	}
-	members, _ := s.value.Members()
+	members, _ := s.Value.Members()
 	return members
 }
 
 // has gives a function that tells whether a member is in the set; it is going to be asked so many times.
 func (s set) has(times int) func(member string) bool {
-	if !s.there() {
+	if !s.There() {
 		return func(string) bool { return false }
 	}
-	if times <= few || s.value.Encoding() == "hashtable" {
+	if times <= few || s.Value.Encoding() == "hashtable" {
 		return func(member string) bool {
-			found, _ := s.value.Has(member)
+			found, _ := s.Value.Has(member)
 			return found
 		}
 	}
@@ -74,37 +61,33 @@ func (s set) has(times int) func(member string) bool {
 
 // add lets members join; a set that is not there is made of them. How many are new.
 func (s set) add(members ...string) (int, error) {
-	if !s.there() {
-		return s.call.makeSet(s.key, members...)
+	if !s.There() {
+		return makeSet(s.Call, s.Key, members...)
 	}
-	fresh, e := s.value.Add(members...)
+	fresh, e := s.Value.Add(members...)
 	if fresh > 0 {
-		s.changed()
+		s.Changed()
 	}
 	return fresh, command.Fault(e)
 }
 
 // drop takes members out; how many were there.
 func (s set) drop(members ...string) int {
-	if !s.there() {
+	if !s.There() {
 		return 0
 	}
-	gone, _ := s.value.Drop(members...)
+	gone, _ := s.Value.Drop(members...)
 	if gone > 0 {
-		s.changed()
+		s.Changed()
 	}
 	return gone
 }
 
-// changed tells the space that the set was worked on.
-func (s set) changed() { s.call.Space.Changed(s.call.DB, s.key) }
-
 // makeSet lets a key, whatever it was, be a new set of members, of which there is one at least; how many it has.
-func (c *call) makeSet(key string, members ...string) (int, error) {
-	v := c.New(api.KindSet)
-	fresh, e := v.Add(members...)
-	if e == api.OK {
-		e = c.Space.Put(c.DB, key, v)
-	}
-	return fresh, command.Fault(e)
+func makeSet(c *command.Call, key string, members ...string) (fresh int, err error) {
+	err = c.Make(api.KindSet, key, func(v *value.Value) (e api.Errno) {
+		fresh, e = v.Add(members...)
+		return e
+	})
+	return fresh, err
 }

@@ -42,7 +42,7 @@ func storing(of func(sets ...set) []string) func(c *call) (api.Reply, error) {
 			c.Space.Drop(c.DB, dest)
 			return resp.Int(0), nil
 		}
-		n, err := c.makeSet(dest, members...)
+		n, err := makeSet(&c.Call, dest, members...)
 		return resp.Int(n), err
 	}
 }
@@ -70,10 +70,10 @@ func (c *call) countCommon() (api.Reply, error) {
 
 // intersection gives what all sets have. It begins with the smallest one, so that no more members are sought than all sets have together.
 func intersection(sets ...set) []string {
-	smallest := slices.MinFunc(sets, func(a, b set) int { return cmp.Compare(a.len(), b.len()) })
+	smallest := slices.MinFunc(sets, func(a, b set) int { return cmp.Compare(a.Len(), b.Len()) })
 	members := smallest.members()
 	for _, s := range once(sets...) {
-		if s.key == smallest.key {
+		if s.Key == smallest.Key {
 			continue
 		}
 		has := s.has(len(members))
@@ -102,15 +102,7 @@ func difference(sets ...set) []string {
 	})
 }
 
-// once leaves out the sets under keys that came already: a command may name one key a million times.
+// once leaves out the sets under keys that came already.
 func once(sets ...set) []set {
-	keys := map[string]struct{}{}
-	var list []set
-	for _, s := range sets {
-		if _, again := keys[s.key]; !again {
-			keys[s.key] = struct{}{}
-			list = append(list, s)
-		}
-	}
-	return list
+	return command.Once(func(s set) string { return s.Key }, sets...)
 }

@@ -53,12 +53,7 @@ func (c *call) lookText(key string) (held, error) {
 
 // write gives a key a string anew, by which it has no expiry any more.
 func (c *call) write(key, text string) error {
-	v := c.New(api.KindString)
-	e := v.SetText(text)
-	if e == api.OK {
-		e = c.Space.Put(c.DB, key, v)
-	}
-	return command.Fault(e)
+	return c.Make(api.KindString, key, func(v *value.Value) api.Errno { return v.SetText(text) })
 }
 
 // workOn gives a key that was looked at another string: in its place, by which its expiry stays, or anew, if it is not there.
