@@ -38,6 +38,15 @@ func (h Held) Scan(cursor, n int) ([]string, int) {
 	return names, next
 }
 
+// NamesOf gives members without their scores.
+func NamesOf(members ...api.Scored) []string {
+	names := make([]string, len(members))
+	for i, m := range members {
+		names[i] = m.Member
+	}
+	return names
+}
+
 // Changed tells the space that the value was worked on.
 func (h Held) Changed() { h.Call.Space.Changed(h.Call.DB, h.Key) }
 

@@ -95,3 +95,13 @@ func TestOnce(t *testing.T) {
 		t.Errorf("Once of none = %q", got)
 	}
 }
+
+// TestNamesOf: members without their scores, in their order.
+func TestNamesOf(t *testing.T) {
+	if got := NamesOf(api.Scored{Member: "b", Score: 1}, api.Scored{Member: "a", Score: 2}, api.Scored{}); !slices.Equal(got, []string{"b", "a", ""}) {
+		t.Errorf("NamesOf = %q", got)
+	}
+	if got := NamesOf(); len(got) != 0 {
+		t.Errorf("NamesOf nothing = %q", got)
+	}
+}

@@ -2,6 +2,8 @@ package command
 
 import (
 	"errors"
+	"maps"
+	"slices"
 
 	"cistern/api"
 	"cistern/glob"
@@ -16,55 +18,64 @@ const (
 
 var errCursor = errors.New("ERR invalid cursor")
 
+// Pattern says which texts are told.
+type Pattern string
+
+// ReadPattern reads a pattern, which must not be too long.
+func ReadPattern(word string) (Pattern, error) {
+	if len(word) > api.MaxPattern {
+		return "", Fault(api.ErrArg)
+	}
+	return Pattern(word), nil
+}
+
+// Matching leaves of a list, which is the caller's to change, the texts that match.
+func (p Pattern) Matching(texts []string) []string {
+	if p == everything {
+		return texts
+	}
+	return slices.DeleteFunc(texts, func(text string) bool { return !glob.Match(string(p), text, false) })
+}
+
 // Scan is what a step of a scan is asked for.
 type Scan struct {
-	Cursor  int
-	Count   int // elements that are to be met
-	pattern string
+	Pattern
+	Cursor int
+	Count  int // elements that are to be met
 }
 
 // ReadScan reads a cursor and the options behind it, of which the last one of each counts.
 func ReadScan(cursor string, options ...string) (Scan, error) {
-	return ReadScanWith(func(string) bool { return false }, cursor, options...)
+	return ReadScanWith(nil, cursor, options...)
 }
 
-// ReadScanWith is the same of a scan that has options of its own without a word behind them: flag takes such a one over, and tells whether it has.
-func ReadScanWith(flag func(option string) bool, cursor string, options ...string) (Scan, error) {
+// ReadScanWith is the same of a scan that has options of its own.
+func ReadScanWith(own Options, cursor string, options ...string) (Scan, error) {
 	n, ok := varint.Number(cursor)
 	if !ok || n < 0 {
 		return Scan{}, errCursor
 	}
-	s := Scan{Cursor: n, Count: usualCount, pattern: everything}
-	next := Words(options)
-	for option, more := next(); more; option, more = next() {
-		if flag(option) {
-			continue
-		}
-		word, has := next()
-		if !has || !s.read(option, word) {
-			return Scan{}, Fault(api.ErrArg)
-		}
+	s := Scan{Pattern: everything, Cursor: n, Count: usualCount}
+	known := Options{"match": TakeWord(s.takePattern), "count": TakeWord(s.takeCount)}
+	maps.Copy(known, own)
+	if err := known.Read(options); err != nil {
+		return Scan{}, err
 	}
 	return s, nil
 }
 
-// read takes an option and the word behind it over; whether they may be.
-func (s *Scan) read(option, word string) bool {
-	switch {
-	case Is(option, "match"):
-		s.pattern = word
-		return len(word) <= api.MaxPattern
-	case Is(option, "count"):
-		n, ok := varint.Number(word)
-		s.Count = n
-		return ok && n > 0
-	}
-	return false
+func (s *Scan) takePattern(word string) (err error) {
+	s.Pattern, err = ReadPattern(word)
+	return err
 }
 
-// Matches tells whether an element that was met is to be told.
-func (s Scan) Matches(element string) bool {
-	return s.pattern == everything || glob.Match(s.pattern, element, false)
+func (s *Scan) takeCount(word string) error {
+	n, ok := varint.Number(word)
+	if !ok || n <= 0 {
+		return Fault(api.ErrArg)
+	}
+	s.Count = n
+	return nil
 }
 
 // Scanned is the answer to a step of a scan: the cursor for the next one, and what is told.

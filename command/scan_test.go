@@ -1,6 +1,7 @@
 package command
 
 import (
+	"errors"
 	"math"
 	"strings"
 	"testing"
@@ -26,44 +27,68 @@ func TestReadScan(t *testing.T) {
 		if err != nil || s.Cursor != c.cursor || s.Count != c.count {
 			t.Errorf("%s: %+v, %v", c.line, s, err)
 		}
-		if !s.Matches(c.told) || c.untold != "" && s.Matches(c.untold) {
-			t.Errorf("%s: %q is told: %v, %q: %v", c.line, c.told, s.Matches(c.told), c.untold, s.Matches(c.untold))
+		if !matches(s.Pattern, c.told) || c.untold != "" && matches(s.Pattern, c.untold) {
+			t.Errorf("%s: %q is told: %v, %q: %v", c.line, c.told, matches(s.Pattern, c.told), c.untold, matches(s.Pattern, c.untold))
 		}
 	}
 	s, err := ReadScan("0", "MATCH", "")
-	if err != nil || !s.Matches("") || s.Matches("a") {
+	if err != nil || !matches(s.Pattern, "") || matches(s.Pattern, "a") {
 		t.Errorf("the empty pattern: %+v, %v", s, err)
 	}
 	most := strings.Repeat("?", api.MaxPattern)
-	if s, err = ReadScan("0", "MATCH", most); err != nil || !s.Matches(most) || s.Matches(most[1:]) {
+	if s, err = ReadScan("0", "MATCH", most); err != nil || !matches(s.Pattern, most) || matches(s.Pattern, most[1:]) {
 		t.Errorf("a pattern of as many bytes as may be: %v", err)
 	}
 }
 
-// TestReadScanWith: an option without a word behind it, anywhere among the others, and as the word of another one; one that is not taken over is none.
+func matches(p Pattern, text string) bool { return len(p.Matching([]string{text})) == 1 }
+
+// TestPattern: of a list the texts that match are left, in their order; a pattern may have so many bytes and no more.
+func TestPattern(t *testing.T) {
+	for pattern, want := range map[string]string{"*": "b ab a aa B", "a*": "ab a aa", "?": "b a B", "[^a]": "b B", "a": "a", "**": "b ab a aa B", "": "", "none": ""} {
+		p, err := ReadPattern(pattern)
+		if got := strings.Join(p.Matching(strings.Fields("b ab a aa B")), " "); got != want || err != nil {
+			t.Errorf("%q leaves %q, %v; want %q", pattern, got, err, want)
+		}
+	}
+	most := strings.Repeat("a", api.MaxPattern)
+	if p, err := ReadPattern(most); p != Pattern(most) || err != nil {
+		t.Errorf("a pattern of as many bytes as may be: %d bytes, %v", len(p), err)
+	}
+	if p, err := ReadPattern(most + "a"); p != "" || told(err) != "ERR syntax error" {
+		t.Errorf("a pattern of a byte more: %d bytes, %v", len(p), err)
+	}
+}
+
+// TestReadScanWith: options of a scan's own, anywhere among the others, and as the word of another one.
 func TestReadScanWith(t *testing.T) {
 	for _, c := range []struct {
 		line  string
 		count int
 		told  string
-		flags int
+		flag  bool
+		word  string
 		err   string
 	}{
-		{"0", 10, "a", 0, ""}, {"0 flag", 10, "a", 1, ""}, {"0 FLAG COUNT 3", 3, "a", 1, ""}, {"0 COUNT 3 Flag", 3, "a", 1, ""}, {"0 COUNT 3 flag MATCH b*", 3, "bb", 1, ""}, {"0 MATCH flag", 10, "flag", 0, ""}, {"0 MATCH flag flag", 10, "flag", 1, ""}, {"0 flag COUNT 1 flag MATCH a", 1, "a", 2, ""},
-		{"0 flag flag flag", 0, "", 2, "ERR syntax error"}, {"0 flag flag flag COUNT", 0, "", 2, "ERR syntax error"}, {"0 COUNT flag", 0, "", 0, "ERR syntax error"}, {"0 flags", 0, "", 0, "ERR syntax error"}, {"0 flag 1", 0, "", 1, "ERR syntax error"}, {"0 MATCH", 0, "", 0, "ERR syntax error"}, {"x flag", 0, "", 0, "ERR invalid cursor"},
+		{"0", 10, "a", false, "", ""}, {"0 flag", 10, "a", true, "", ""}, {"0 FLAG COUNT 3", 3, "a", true, "", ""}, {"0 COUNT 3 Flag", 3, "a", true, "", ""}, {"0 COUNT 3 flag MATCH b*", 3, "bb", true, "", ""}, {"0 MATCH flag", 10, "flag", false, "", ""}, {"0 MATCH flag flag", 10, "flag", true, "", ""}, {"0 flag COUNT 1 flag MATCH a", 1, "a", true, "", ""},
+		{"0 WORD flag", 10, "a", false, "flag", ""}, {"0 word a COUNT 2 Word b", 2, "a", false, "b", ""}, {"0 flag word MATCH match x", 10, "x", true, "MATCH", ""},
+		{"0 COUNT flag", 0, "", false, "", "ERR syntax error"}, {"0 flags", 0, "", false, "", "ERR syntax error"}, {"0 flag 1", 0, "", true, "", "ERR syntax error"}, {"0 MATCH", 0, "", false, "", "ERR syntax error"}, {"0 word", 0, "", false, "", "ERR syntax error"}, {"0 word no flag", 0, "", false, "", "ERR no"}, {"x flag", 0, "", false, "", "ERR invalid cursor"},
 	} {
-		flags := 0
-		flag := func(option string) bool {
-			if !Is(option, "flag") || flags == 2 {
-				return false
+		flag, kept := false, ""
+		own := Options{"flag": Flag(&flag), "word": TakeWord(func(word string) error {
+			if word == "no" {
+				return errors.New("ERR no")
 			}
-			flags++
-			return true
-		}
+			kept = word
+			return nil
+		})}
 		words := strings.Fields(c.line)
-		s, err := ReadScanWith(flag, words[0], words[1:]...)
-		if s.Count != c.count || flags != c.flags || told(err) != c.err || err == nil && !s.Matches(c.told) {
-			t.Errorf("%s: %+v, %d flags, %v", c.line, s, flags, err)
+		s, err := ReadScanWith(own, words[0], words[1:]...)
+		if s.Count != c.count || flag != c.flag || kept != c.word || told(err) != c.err || err == nil && !matches(s.Pattern, c.told) {
+			t.Errorf("%s: %+v, %v, %q, %v", c.line, s, flag, kept, err)
+		}
+		if len(own) != 2 {
+			t.Errorf("%s: the scan's own options have become %d", c.line, len(own))
 		}
 	}
 }

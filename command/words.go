@@ -31,6 +31,15 @@ func Number(word string) (int, error) {
 	return n, nil
 }
 
+// Both reads two words by one reader.
+func Both[E any](read func(word string) (E, error), first, second string) (a, b E, err error) {
+	a, err = read(first)
+	if err == nil {
+		b, err = read(second)
+	}
+	return a, b, err
+}
+
 // Sum adds two numbers, if the sum is one of 64 bits.
 func Sum(a, b int) (int, error) {
 	sum := a + b

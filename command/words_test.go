@@ -1,6 +1,7 @@
 package command
 
 import (
+	"errors"
 	"math"
 	"slices"
 	"testing"
@@ -58,6 +59,27 @@ func TestNumber(t *testing.T) {
 	for _, word := range []string{"", "x", "-0", "+1", "01", "1 ", "1.0", "9223372036854775808", "-9223372036854775809"} {
 		if n, err := Number(word); n != 0 || told(err) != "ERR value is not an integer or out of range" {
 			t.Errorf("Number(%q) = %d, %v", word, n, err)
+		}
+	}
+}
+
+// TestBoth: two words, of which the first that can't be read is told.
+func TestBoth(t *testing.T) {
+	read := func(word string) (int, error) {
+		if word != "1" && word != "2" {
+			return 0, errors.New(word)
+		}
+		return int(word[0] - '0'), nil
+	}
+	for _, c := range []struct {
+		first, second string
+		a, b          int
+		err           string
+	}{
+		{"1", "2", 1, 2, ""}, {"2", "1", 2, 1, ""}, {"x", "1", 0, 0, "x"}, {"1", "x", 1, 0, "x"}, {"x", "y", 0, 0, "x"},
+	} {
+		if a, b, err := Both(read, c.first, c.second); a != c.a || b != c.b || told(err) != c.err {
+			t.Errorf("Both(%s, %s) = %d, %d, %v", c.first, c.second, a, b, err)
 		}
 	}
 }

@@ -1,22 +1,20 @@
 package hashes
 
 import (
-	"slices"
-
 	"cistern/api"
 	"cistern/command"
 )
 
 func (c *call) scan() (api.Reply, error) {
 	bare := false // names without their values
-	flag := func(option string) bool {
-		if bare || !command.Is(option, "novalues") {
-			return false
+	noValues := func(behind []string) ([]string, error) {
+		if bare {
+			return nil, command.Fault(api.ErrArg)
 		}
 		bare = true
-		return true
+		return behind, nil
 	}
-	asked, err := command.ReadScanWith(flag, c.Args[1], c.Args[2:]...)
+	asked, err := command.ReadScanWith(command.Options{"novalues": noValues}, c.Args[1], c.Args[2:]...)
 	if err != nil {
 		return api.Reply{}, err
 	}
@@ -25,7 +23,7 @@ func (c *call) scan() (api.Reply, error) {
 		return api.Reply{}, err
 	}
 	names, next := h.Scan(asked.Cursor, asked.Count)
-	names = slices.DeleteFunc(names, func(name string) bool { return !asked.Matches(name) })
+	names = asked.Matching(names)
 	if bare {
 		return command.Scanned(next, names...), nil
 	}

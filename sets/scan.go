@@ -1,8 +1,6 @@
 package sets
 
 import (
-	"slices"
-
 	"cistern/api"
 	"cistern/command"
 )
@@ -17,6 +15,5 @@ func (c *call) scan() (api.Reply, error) {
 		return api.Reply{}, err
 	}
 	members, next := s.Scan(asked.Cursor, asked.Count)
-	members = slices.DeleteFunc(members, func(member string) bool { return !asked.Matches(member) })
-	return command.Scanned(next, members...), nil
+	return command.Scanned(next, asked.Matching(members)...), nil
 }

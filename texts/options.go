@@ -1,7 +1,6 @@
 package texts
 
 import (
-	"errors"
 	"slices"
 
 	"cistern/api"
@@ -21,9 +20,6 @@ const (
 	onlyThere      = "xx"
 	tellOld        = "get"
 )
-
-// never is the time of a key that does not expire.
-const never = -1
 
 // options are the option words that were read, each at its place: those of one place exclude each other, and themselves.
 type options struct {
@@ -78,7 +74,7 @@ func (o *options) place(word string) *string {
 // due is the time that the options' expiry option means; never, if there is none.
 func (c *call) due(o options) (int, error) {
 	if !isExpiry(o.expiry) {
-		return never, nil
+		return command.Never, nil
 	}
 	return c.dueBy(o.expiry, o.span)
 }
@@ -89,17 +85,14 @@ func (c *call) dueBy(option, word string) (int, error) {
 	if err != nil {
 		return 0, err
 	}
-	start, unit := 0, 1
-	if option == seconds || option == milliseconds {
-		start = c.Space.Now()
+	if n <= 0 {
+		return 0, c.BadTime()
 	}
+	unit := command.Millisecond
 	if option == seconds || option == secondsAt {
-		unit = 1000
+		unit = command.Second
 	}
-	if n <= 0 || n > (api.MaxNumber-start)/unit {
-		return 0, errors.New("ERR invalid expire time in '" + c.Name + "' command")
-	}
-	return start + n*unit, nil
+	return c.Due(n, unit, option == seconds || option == milliseconds)
 }
 
 // writeUntil writes a string that expires at a time, or never.
@@ -107,7 +100,7 @@ func (c *call) writeUntil(key, text string, at int) error {
 	if err := c.write(key, text); err != nil {
 		return err
 	}
-	if at != never {
+	if at != command.Never {
 		c.Space.Expire(c.DB, key, at)
 	}
 	return nil

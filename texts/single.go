@@ -37,7 +37,7 @@ func set(c *call) (api.Reply, error) {
 // expiry is when a key expires that was looked at.
 func (c *call) expiry(h held) int {
 	if !h.there() {
-		return never
+		return command.Never
 	}
 	at, _ := c.Space.Expiry(c.DB, h.key)
 	return at
@@ -81,7 +81,7 @@ func getExpire(c *call) (api.Reply, error) {
 		return api.Reply{}, err
 	}
 	was := h.reply()
-	if at != never {
+	if at != command.Never {
 		c.Space.Expire(c.DB, h.key, at)
 	}
 	if o.expiry == dropExpiry {

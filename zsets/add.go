@@ -18,18 +18,18 @@ var (
 // rules are the options of ZADD by their words: which pairs are done, how, and what is told of them.
 type rules struct{ nx, xx, gt, lt, ch, incr bool }
 
-func (r *rules) options() options {
-	return options{
-		"nx": flag(&r.nx), "xx": flag(&r.xx),
-		"gt": flag(&r.gt), "lt": flag(&r.lt),
-		"ch": flag(&r.ch), "incr": flag(&r.incr),
+func (r *rules) options() command.Options {
+	return command.Options{
+		"nx": command.Flag(&r.nx), "xx": command.Flag(&r.xx),
+		"gt": command.Flag(&r.gt), "lt": command.Flag(&r.lt),
+		"ch": command.Flag(&r.ch), "incr": command.Flag(&r.incr),
 	}
 }
 
 // readRules reads the rules, and gives the words of the pairs behind them.
 func readRules(words []string) (rules, []string, error) {
 	var r rules
-	pairs, err := r.options().lead(words)
+	pairs, err := r.options().Lead(words)
 	if err == nil {
 		err = r.check(len(pairs))
 	}

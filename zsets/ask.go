@@ -46,7 +46,7 @@ func orNull(score int, found bool) api.Reply {
 func ranking(back bool) func(c *call) (api.Reply, error) {
 	return func(c *call) (api.Reply, error) {
 		withScore := false
-		if err := (options{"withscore": flag(&withScore)}).read(c.Args[2:]); err != nil {
+		if err := (command.Options{"withscore": command.Flag(&withScore)}).Read(c.Args[2:]); err != nil {
 			return api.Reply{}, err
 		}
 		z, err := c.zset(c.Args[0])

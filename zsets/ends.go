@@ -21,7 +21,7 @@ func popping(back bool) func(c *call) (api.Reply, error) {
 			return api.Reply{}, err
 		}
 		members := z.part(0, n, back)
-		z.drop(namesOf(members...)...)
+		z.drop(command.NamesOf(members...)...)
 		return tellMembers(true, members...), nil
 	}
 }
@@ -40,7 +40,7 @@ func (c *call) sample() (api.Reply, error) {
 
 func (c *call) sampleSome() (api.Reply, error) {
 	withScores := false
-	if err := (options{"withscores": flag(&withScores)}).read(c.Args[2:]); err != nil {
+	if err := (command.Options{"withscores": command.Flag(&withScores)}).Read(c.Args[2:]); err != nil {
 		return api.Reply{}, err
 	}
 	n, err := command.SampleSize(c.Args[1])

@@ -34,15 +34,6 @@ func (z zset) pick(c choice) []api.Scored {
 	return c(z.Value)
 }
 
-// both reads two ends by one reader.
-func both[E any](read func(word string) (E, error), first, last string) (a, b E, err error) {
-	a, err = read(first)
-	if err == nil {
-		b, err = read(last)
-	}
-	return a, b, err
-}
-
 func readBound(word string) (api.Bound, error) {
 	b, e := glob.Bound(word)
 	return b, command.Fault(e)
@@ -58,7 +49,7 @@ func readLex(word string) (api.Lex, error) {
 
 // byRank is the ranger of ranks, which back are counted from the greatest down; they are told without a limit.
 func byRank(first, last string, w window) (choice, error) {
-	a, b, err := both(command.Number, first, last)
+	a, b, err := command.Both(command.Number, first, last)
 	if err != nil {
 		return nil, err
 	}
@@ -85,7 +76,7 @@ func ranks(a, b, of int) (int, int) {
 }
 
 func byScore(first, last string, w window) (choice, error) {
-	low, high, err := both(readBound, first, last)
+	low, high, err := command.Both(readBound, first, last)
 	if err != nil {
 		return nil, err
 	}
@@ -99,7 +90,7 @@ func byScore(first, last string, w window) (choice, error) {
 }
 
 func byLex(first, last string, w window) (choice, error) {
-	low, high, err := both(readLex, first, last)
+	low, high, err := command.Both(readLex, first, last)
 	if err != nil {
 		return nil, err
 	}

@@ -68,14 +68,6 @@ func inOrder(scores map[string]int) []api.Scored {
 	return members
 }
 
-func namesOf(members ...api.Scored) []string {
-	names := make([]string, len(members))
-	for i, m := range members {
-		names[i] = m.Member
-	}
-	return names
-}
-
 // inTurns gives members and the digits of their scores in turns.
 func inTurns(members ...api.Scored) []string {
 	texts := make([]string, 0, 2*len(members))
@@ -90,5 +82,5 @@ func tellMembers(withScores bool, members ...api.Scored) api.Reply {
 	if withScores {
 		return command.Listed(api.ReplyArray, inTurns(members...)...)
 	}
-	return command.Listed(api.ReplyArray, namesOf(members...)...)
+	return command.Listed(api.ReplyArray, command.NamesOf(members...)...)
 }

@@ -21,8 +21,8 @@ type several struct {
 	withScores bool
 }
 
-func (s *several) options() options {
-	return options{"weights": s.takeWeights, "aggregate": s.takeJoin, "withscores": flag(&s.withScores)}
+func (s *several) options() command.Options {
+	return command.Options{"weights": s.takeWeights, "aggregate": command.TakeWord(s.takeJoin), "withscores": command.Flag(&s.withScores)}
 }
 
 func (s *several) takeWeights(behind []string) ([]string, error) {
@@ -39,16 +39,13 @@ func (s *several) takeWeights(behind []string) ([]string, error) {
 	return behind[len(s.weights):], nil
 }
 
-func (s *several) takeJoin(behind []string) ([]string, error) {
-	if len(behind) == 0 {
-		return nil, command.Fault(api.ErrArg)
-	}
-	by, ok := map[string]join{"sum": sum, "min": lesser, "max": greater}[glob.Fold(behind[0])]
+func (s *several) takeJoin(word string) error {
+	by, ok := map[string]join{"sum": sum, "min": lesser, "max": greater}[glob.Fold(word)]
 	if !ok {
-		return nil, command.Fault(api.ErrArg)
+		return command.Fault(api.ErrArg)
 	}
 	s.join = by
-	return behind[1:], nil
+	return nil
 }
 
 // readSeveral reads keys behind the word that counts them, and options, of which those with these words may stand.
@@ -58,7 +55,7 @@ func readSeveral(words []string, known ...string) (several, error) {
 		return several{}, err
 	}
 	s := several{keys: keys, weights: slices.Repeat([]int{1}, len(keys)), join: sum}
-	err = s.options().only(known...).read(behind)
+	err = s.options().Only(known...).Read(behind)
 	return s, err
 }
 
@@ -162,7 +159,7 @@ func difference(_ several, sources ...zset) ([]api.Scored, error) {
 // common gives the members that all have. It begins with the smallest one, so that no more members are sought than all have together.
 func common(sources ...zset) []string {
 	smallest := slices.MinFunc(sources, func(a, b zset) int { return cmp.Compare(a.Len(), b.Len()) })
-	members := namesOf(smallest.all()...)
+	members := command.NamesOf(smallest.all()...)
 	for _, z := range once(sources...) {
 		if z.Key == smallest.Key {
 			continue

@@ -21,24 +21,16 @@ type span struct {
 	limit          []string // S and N; none without LIMIT
 }
 
-func (s *span) options() options {
-	return options{
-		"byscore": flag(&s.byScore), "bylex": flag(&s.byLex),
-		"rev": flag(&s.back), "withscores": flag(&s.withScores), "limit": s.takeLimit,
+func (s *span) options() command.Options {
+	return command.Options{
+		"byscore": command.Flag(&s.byScore), "bylex": command.Flag(&s.byLex),
+		"rev": command.Flag(&s.back), "withscores": command.Flag(&s.withScores), "limit": command.KeepWords(2, &s.limit),
 	}
-}
-
-func (s *span) takeLimit(behind []string) ([]string, error) {
-	if len(behind) < 2 {
-		return nil, command.Fault(api.ErrArg)
-	}
-	s.limit = behind[:2]
-	return behind[2:], nil
 }
 
 // read takes options over, of which those with these words may stand, and refuses what does not go together.
 func (s *span) read(words []string, known ...string) error {
-	if err := s.options().only(known...).read(words); err != nil {
+	if err := s.options().Only(known...).Read(words); err != nil {
 		return err
 	}
 	switch {
@@ -57,7 +49,7 @@ func (s span) window() (window, error) {
 	w := window{back: s.back, most: unlimited}
 	var err error
 	if s.limit != nil {
-		w.skip, w.most, err = both(command.Number, s.limit[0], s.limit[1])
+		w.skip, w.most, err = command.Both(command.Number, s.limit[0], s.limit[1])
 	}
 	return w, err
 }
@@ -154,6 +146,6 @@ func removing(by ranger) func(c *call) (api.Reply, error) {
 		if err != nil {
 			return api.Reply{}, err
 		}
-		return resp.Int(z.drop(namesOf(members...)...)), nil
+		return resp.Int(z.drop(command.NamesOf(members...)...)), nil
 	}
 }
